@@ -1,0 +1,1 @@
+"""Fewest coins: how few coins a sum takes, and when taking the greatest first takes as few."""

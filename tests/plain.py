@@ -3,13 +3,16 @@
 from fewestcoins.purse import answers
 
 CODES = {"begin": 0, "kind": 1, "drop": 2, "fewest": 3, "greedy": 4, "how": 5, "ways": 6, "worse": 7, "always": 8,
-         "least": 9}
+         "least": 9, "bad": 10, "most": 11, "farthest": 12, "plus": 13, "without": 14, "best": 15, "steps": 16,
+         "kinds": 17, "sums": 18}
 
-ALONE = ("begin", "always", "least")
-
-ALL_CODES_ALONE = (0, 8, 9, 16, 17)
+ALONE = ("begin", "always", "least", "steps", "kinds")
 
 GREATEST_ARGUMENT = 4294967295
+
+# Of the calls that take a sum or a number of coins, the least and the greatest that is not refused.
+LIMITS = {"fewest": (0, 1000), "greedy": (0, 1000), "how": (0, 300), "ways": (0, 60), "worse": (0, 1000),
+          "bad": (0, 200), "most": (0, 1000), "farthest": (1, 20), "best": (2, 60), "sums": (0, 1000)}
 
 
 def flat(calls):
@@ -116,8 +119,42 @@ def edge(kinds):
     return 2 if kinds == [1] else sum(kinds[-2:])
 
 
+def always_fewest(kinds):
+    return 0 if worse_sums(kinds, edge(kinds)) else 1
+
+
+def reached_with(kinds, coins, top):
+    """All sums up to top that so many coins, or fewer, make."""
+    reached = {0}
+    for _ in range(coins):
+        reached = reached | {total + worth for total in reached for worth in kinds if total + worth <= top}
+    return reached
+
+
+def farthest_sum(kinds, coins):
+    reached = reached_with(kinds, coins, 1000)
+    return min([total for total in range(1001) if total not in reached], default=1001) - 1
+
+
+def together(kinds, top):
+    """How many coins all sums up to top take together, each by the fewest."""
+    return sum(fewest_by_rounds(kinds, top))
+
+
+def best_kind(kinds, top):
+    """What best answers: each kind that isn't there is tried."""
+    now = together(kinds, top)
+    tried = [(together(sorted(kinds + [worth]), top), worth) for worth in range(2, top + 1) if worth not in kinds]
+    coins, worth = min([pair for pair in tried if pair[0] < now], default=(now, 1))
+    return [worth, coins, now]
+
+
+def in_steps(kinds):
+    return 1 if all(greater in range(0, 101, less) for less, greater in zip(kinds, kinds[1:])) else 0
+
+
 class Model:
-    """The ten calls by the words of the document."""
+    """The nineteen calls by the words of the document."""
 
     def __init__(self):
         self.kinds = None
@@ -130,10 +167,20 @@ class Model:
             return [-11]
         if name in ("kind", "drop"):
             return [self.change(name, number)]
+        if name in ("plus", "without"):
+            return self.tell_otherwise(name, number)
         if name in ("always", "least"):
             return self.tell_always(name)
-        limit = {"how": 300, "ways": 60}.get(name, 1000)
-        return [-22] if number > limit else self.tell_sum(name, number)
+        if name == "steps":
+            return [in_steps(self.kinds)]
+        if name == "kinds":
+            return [len(self.kinds)] + self.kinds
+        least, greatest = LIMITS[name]
+        if number < least or number > greatest:
+            return [-22]
+        if name in ("fewest", "greedy", "worse", "ways", "how"):
+            return self.tell_sum(name, number)
+        return self.tell_up_to(name, number)
 
     def change(self, name, worth):
         if name == "kind":
@@ -151,6 +198,21 @@ class Model:
                 return -22
             self.kinds = [other for other in self.kinds if other != worth]
         return len(self.kinds)
+
+    def tell_otherwise(self, name, worth):
+        if name == "plus":
+            if not 2 <= worth <= 100:
+                return [-22]
+            if worth in self.kinds:
+                return [-17]
+            others = sorted(self.kinds + [worth])
+        else:
+            if worth not in self.kinds:
+                return [-2]
+            if worth == 1:
+                return [-22]
+            others = [other for other in self.kinds if other != worth]
+        return [always_fewest(others), always_fewest(self.kinds)]
 
     def tell_always(self, name):
         found = worse_sums(self.kinds, edge(self.kinds))
@@ -173,3 +235,16 @@ class Model:
         if name == "ways":
             return [len(found)]
         return [fewest] + list(found[0])
+
+    def tell_up_to(self, name, number):
+        if name == "farthest":
+            return [farthest_sum(self.kinds, number)]
+        if name == "best":
+            return best_kind(self.kinds, number)
+        if name == "bad":
+            found = worse_sums(self.kinds, number)
+            return [len(found)] + found
+        fewest = fewest_by_rounds(self.kinds, number)
+        if name == "most":
+            return [fewest.index(max(fewest)), max(fewest)]
+        return [sum(fewest), sum(sum(take_greatest_first(self.kinds, total)) for total in range(number + 1))]

@@ -1,24 +1,12 @@
 """The answers held against a plain count of all ways, and against the words of the document."""
 
-import random
 import unittest
-from itertools import combinations
 
+from choice import chosen_kinds, small_kinds
 from plain import (all_ways, ask_of, edge, fewest_by_rounds, fewest_ways, most_of_greatest, take_greatest_first,
                    worse_sums)
 
 FEW_KINDS_FAR_APART = ([1], [1, 2], [1, 100], [1, 50, 75], [1, 98, 99], [1, 99, 100], [1, 37, 61, 100])
-
-
-def small_kinds():
-    """Every choice of kinds of up to 9."""
-    return [[1] + list(others) for size in range(6) for others in combinations(range(2, 10), size)]
-
-
-def chosen_kinds(how_many):
-    """Kinds from all over 2 to 100, the same ones each time."""
-    source = random.Random(20)
-    return [[1] + sorted(source.sample(range(2, 101), source.randint(0, 5))) for _ in range(how_many)]
 
 
 class AllWays(unittest.TestCase):

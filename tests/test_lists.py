@@ -4,30 +4,28 @@ import random
 import unittest
 
 from fewestcoins.purse import answers
-from plain import ALONE, CODES, GREATEST_ARGUMENT, Model, flat, split
+from plain import ALONE, CODES, GREATEST_ARGUMENT, LIMITS, Model, flat, split
 
-EDGE_NUMBERS = {
-    "kind": (0, 1, 2, 100, 101, GREATEST_ARGUMENT),
-    "drop": (0, 1, 2, 100, 101, GREATEST_ARGUMENT),
-    "fewest": (0, 1, 1000, 1001, GREATEST_ARGUMENT),
-    "greedy": (0, 1, 1000, 1001, GREATEST_ARGUMENT),
-    "worse": (0, 1, 1000, 1001, GREATEST_ARGUMENT),
-    "how": (0, 1, 300, 301, GREATEST_ARGUMENT),
-    "ways": (0, 1, 60, 61, GREATEST_ARGUMENT),
-}
+TAKING_A_WORTH = ("kind", "drop", "plus", "without")
 
-ORDINARY_TOP = {"kind": 12, "drop": 12, "fewest": 200, "greedy": 200, "worse": 200, "how": 120, "ways": 60}
+ORDINARY_TOP = {"fewest": 200, "greedy": 200, "worse": 200, "how": 120, "ways": 60, "bad": 120, "most": 200,
+                "farthest": 20, "best": 30, "sums": 200}
+
+
+def edge_numbers(name):
+    least, greatest = (2, 100) if name in TAKING_A_WORTH else LIMITS[name]
+    return (0, 1, least, least + 1, greatest, greatest + 1, GREATEST_ARGUMENT)
 
 
 def chosen_call(source):
-    name = source.choice(sorted(CODES) + ["kind"] * 4)
+    name = source.choice(sorted(CODES) + ["kind"] * 5 + ["drop"])
     if name == "begin" and source.randrange(4):
         name = "kind"
     if name in ALONE:
         return (name,)
     if source.randrange(5) == 0:
-        return (name, source.choice(EDGE_NUMBERS[name]))
-    return (name, source.randint(0, ORDINARY_TOP[name]))
+        return (name, source.choice(edge_numbers(name)))
+    return (name, source.randint(0, ORDINARY_TOP.get(name, 12)))
 
 
 def chosen_calls(seed, size):
@@ -37,6 +35,12 @@ def chosen_calls(seed, size):
 
 
 class ManyCalls(unittest.TestCase):
+
+    def assert_same(self, told, expected):
+        # One by one: to show how two long lists differ takes unittest minutes.
+        self.assertEqual(len(told), len(expected))
+        for place, number in enumerate(expected):
+            self.assertEqual(told[place], number, place)
 
     def assert_as_modelled(self, calls):
         model = Model()
@@ -53,21 +57,36 @@ class ManyCalls(unittest.TestCase):
         for seed in range(20):
             self.assert_as_modelled(chosen_calls(1000 + seed, 400))
 
-    def test_400_calls_of_the_greatest_sum_that_each_takes(self):
+    def test_lists_of_400_calls_hold_all_nineteen(self):
+        for seed in range(20):
+            self.assertEqual({call[0] for call in chosen_calls(1000 + seed, 400)}, set(CODES))
+
+    def test_400_calls_of_the_greatest_number_that_each_takes(self):
         made = [0, 1, 7, 1, 11, 1, 13, 1, 17, 1, 100]
-        for name, greatest in (("fewest", 1000), ("greedy", 1000), ("worse", 1000), ("how", 300), ("ways", 60)):
+        for name, (_, greatest) in LIMITS.items():
             calls = made + [CODES[name], greatest] * 394
             told = split(answers(calls))
             self.assertEqual(len(told), 400)
             model = Model()
             model.kinds = [1, 7, 11, 13, 17, 100]
-            self.assertEqual(told[6:], [model.answer(name, greatest)] * 394)
+            self.assert_same(told[6:], [model.answer(name, greatest)] * 394)
+
+    def test_400_calls_that_tell_what_would_be(self):
+        model = Model()
+        model.kinds = [1, 7, 11, 13, 17, 100]
+        calls = [0, 1, 7, 1, 11, 1, 13, 1, 17, 1, 100] + [13, 99, 14, 7] * 197
+        told = split(answers(calls))
+        self.assert_same(told[6:], [model.answer("plus", 99), model.answer("without", 7)] * 197)
+
+    def test_400_calls_of_steps_and_kinds(self):
+        calls = [0, 1, 9, 1, 3] + [16, 17] * 198 + [16]
+        self.assert_same(answers(calls), [1, 0, 1, 2, 1, 3] + [1, 1, 4, 3, 1, 3, 9] * 198 + [1, 1])
 
     def test_400_begins(self):
-        self.assertEqual(answers([0] * 400), [1, 0] * 400)
+        self.assert_same(answers([0] * 400), [1, 0] * 400)
 
     def test_400_calls_before_any_begin(self):
-        self.assertEqual(answers([8] * 400), [1, -11] * 400)
+        self.assert_same(answers([8] * 400), [1, -11] * 400)
 
 
 class HandedIn(unittest.TestCase):
@@ -103,6 +122,8 @@ class HandedIn(unittest.TestCase):
         self.assertEqual(answers([0, 1, 3, 1, 4, 4, 6])[-5:], [4, 3, 2, 0, 1])
         self.assertEqual(answers([4, 6]), [1, -11])
         self.assertEqual(answers([0, 4, 6]), [1, 0, 2, 6, 6])
+        self.assertEqual(answers([17]), [1, -11])
+        self.assertEqual(answers([0, 17]), [1, 0, 2, 1, 1])
 
 
 if __name__ == "__main__":
